@@ -37,6 +37,26 @@ def rates(again, *bands):
     return [4, again] + row(numbers)
 
 
+def count(*numbers):
+    return [5] + row(numbers)
+
+
+def kinds(*numbers):
+    return [6] + row(numbers)
+
+
+def part(hands):
+    return [7, hands]
+
+
+def near(first, second):
+    return [8] + row(told([first, second]))
+
+
+def shows():
+    return [9]
+
+
 def one_list(calls):
     numbers = []
     for call in calls:
@@ -61,3 +81,8 @@ def ask(*calls):
 def some_sentences(how_many, first=0):
     """Sentences of one word each, no two the same."""
     return [[first + k] for k in range(how_many)]
+
+
+def last(*calls):
+    """What the last of the calls is answered."""
+    return ask(*calls)[-1]

@@ -1,31 +1,22 @@
 """One house: its files, its memory and its rates."""
 
+from wordcounts.dealing import best_deal, loads_of
+from wordcounts.jobs import kinds_of, weight_of, words_by_kind
+from wordcounts.sentence import are_right_sentences, count_words, how_near, is_right_sentence
+
 WRONG = -1
 NO_SUCH_FILE = -2
 FULL = -5
 
-MOST_WORDS = 10
-GREATEST_WORD = 999
 MOST_FILES = 6
 MOST_FILE_SENTENCES = 8
 MOST_MEMORY_SENTENCES = 20
 MOST_BANDS = 4
 GREATEST_RATE = 100
+MOST_HANDS = 4
 
 FIRST_AGAIN = 20
 FIRST_BANDS = ((100, 10), (75, 60))
-
-
-def is_right_sentence(words):
-    if len(words) < 1 or len(words) > MOST_WORDS:
-        return False
-    return max(words) <= GREATEST_WORD
-
-
-def are_right_sentences(sentences, most):
-    if len(sentences) > most:
-        return False
-    return all([is_right_sentence(words) for words in sentences])
 
 
 def is_right_band(band):
@@ -46,10 +37,6 @@ def are_right_bands(bands):
     return all([is_right_band(band) for band in bands]) and are_falling(bands)
 
 
-def count_words(sentences):
-    return sum([len(words) for words in sentences])
-
-
 def with_unknown(memory, sentences):
     # A copy grows, so that a refusal afterwards leaves the memory as it was.
     grown = list(memory)
@@ -57,6 +44,12 @@ def with_unknown(memory, sentences):
         if words not in grown:
             grown.append(words)
     return grown
+
+
+def answer_near(words, others):
+    if not is_right_sentence(words) or not is_right_sentence(others):
+        return [WRONG]
+    return [how_near(words, others)]
 
 
 # Refusals are given back, not raised: a method tells a call's whole answer as one list.
@@ -107,3 +100,47 @@ class House:
         self.again = again
         self.bands = bands
         return [0]
+
+    def has_job(self, numbers):
+        if len(set(numbers)) != len(numbers):
+            return False
+        return all([number in self.files for number in numbers])
+
+    def job_of(self, numbers):
+        chosen = numbers if len(numbers) > 0 else sorted(self.files)
+        sentences = []
+        for number in chosen:
+            sentences.extend(self.files[number])
+        return sentences
+
+    def count_by_kind(self, sentences):
+        return words_by_kind(sentences, self.memory, self.bands)
+
+    def weigh(self, sentences):
+        return weight_of(self.count_by_kind(sentences), self.again, self.bands)
+
+    def count_job(self, numbers):
+        if not self.has_job(numbers):
+            return [NO_SUCH_FILE]
+        counted = self.count_by_kind(self.job_of(numbers))
+        return [weight_of(counted, self.again, self.bands)] + counted
+
+    def tell_kinds(self, numbers):
+        if not self.has_job(numbers):
+            return [NO_SUCH_FILE]
+        kinds = kinds_of(self.job_of(numbers), self.memory, self.bands)
+        return [len(kinds)] + kinds
+
+    def part_files(self, hands):
+        if hands < 1 or hands > MOST_HANDS:
+            return [WRONG]
+        weights = [self.weigh(self.files[number]) for number in sorted(self.files)]
+        deal = best_deal(weights, hands)
+        loads = loads_of(deal, weights, hands)
+        return [max(loads), min(loads)] + list(deal)
+
+    def show(self):
+        shown = [len(self.files), len(self.memory)]
+        for number in sorted(self.files):
+            shown.extend([number, len(self.files[number])])
+        return shown

@@ -1,12 +1,17 @@
 """The calls on one house, read from one list of whole numbers and answered in one."""
 
-from wordcounts.house import House
+from wordcounts.house import House, answer_near
 
 FILE = 0
 GONE = 1
 MEMORY = 2
 DONE = 3
 RATES = 4
+COUNT = 5
+KINDS = 6
+PART = 7
+NEAR = 8
+SHOWS = 9
 
 
 class UnknownCall(ValueError):
@@ -61,6 +66,17 @@ def answer_call(house, reader):
     if call == RATES:
         again = reader.take_number()
         return house.replace_rates(again, bands_of(reader.take_row()))
+    if call == COUNT:
+        return house.count_job(reader.take_row())
+    if call == KINDS:
+        return house.tell_kinds(reader.take_row())
+    if call == PART:
+        return house.part_files(reader.take_number())
+    if call == NEAR:
+        pair = sentences_of(reader.take_row())
+        return answer_near(pair[0], pair[1])
+    if call == SHOWS:
+        return house.show()
     raise UnknownCall(f"call {call} is not answered")
 
 
